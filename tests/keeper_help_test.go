@@ -97,6 +97,7 @@ type memory struct {
 	claims [][]impl.Claim
 	votes  [][]impl.Vote
 	msgs   [][]impl.Msg
+	reps   [][]impl.Rep
 }
 
 func (h *memory) addClaims(list []impl.Claim) {
@@ -120,6 +121,14 @@ func (h *memory) addRep(r impl.Rep) {
 	h.addClaims(r.Done)
 }
 
+func (h *memory) addWorld(w impl.World) {
+	h.reps = append(h.reps, w.Reps[:cap(w.Reps)])
+	for _, r := range w.Reps[:cap(w.Reps)] {
+		h.addRep(r)
+	}
+	h.addMsgs(w.Said)
+}
+
 // marks calls visit with each number in memory, and with a mark that is another one for each slice.
 func (h *memory) marks(visit func(n *int, mark int)) {
 	for i, list := range h.claims {
@@ -137,6 +146,11 @@ func (h *memory) marks(visit func(n *int, mark int)) {
 			visit(&list[j].Seq, 1000+i)
 		}
 	}
+	for i, list := range h.reps {
+		for j := range list {
+			visit(&list[j].Next, 1000+i)
+		}
+	}
 }
 
 // mustBeApart writes into all slices of a result, and fails if two of them share memory.
@@ -145,6 +159,11 @@ func mustBeApart(t *testing.T, r impl.Rep, sent []impl.Msg) {
 	h := &memory{}
 	h.addRep(r)
 	h.addMsgs(sent)
+	h.mustBeApart(t)
+}
+
+func (h *memory) mustBeApart(t *testing.T) {
+	t.Helper()
 	h.marks(func(n *int, mark int) { *n = mark })
 	h.marks(func(n *int, mark int) {
 		if *n != mark {
