@@ -112,22 +112,6 @@ func TestP24SaidMax(t *testing.T) {
 	}
 }
 
-// TestP29ReplicaBecomesInvalid has a replica with a claim of a view ahead, which it takes again when it enters the view. Play cannot reach it.
-func TestP29ReplicaBecomesInvalid(t *testing.T) {
-	w := worldWith(3, leadSaidAgain()...)
-	w.Reps[0].Took = []impl.Claim{claim(1, 1, joinOf(1))}
-	if !impl.WorldOk(w) {
-		t.Fatal("not valid at first")
-	}
-	for n := 1; n <= calmMax; n++ {
-		got := calm(t, w, n)
-		if impl.WorldOk(got) || impl.RepOk(got.Reps[0]) {
-			t.Fatalf("%d rounds: replica 0 is %v", n, got.Reps[0])
-		}
-		mustBeZeroWorld(t, "WorldCalm of it", impl.WorldCalm(got, 1))
-	}
-}
-
 func TestP27(t *testing.T) {
 	asks := []impl.Req{joinOf(1), {Client: 1, Num: 2, Op: 3}, {Client: 4, Num: numbers, Op: 1}, {Client: 1, Num: 1, Op: 2, X: 1, Y: 1}, {Client: 2, Num: 7, Op: 5, X: 1, Y: 9}}
 	for bad := 1; bad < keepers; bad++ {

@@ -111,7 +111,7 @@ func modelPlay(bad int, list []impl.Event) impl.World {
 	return w
 }
 
-// modelCalm has each message received as by an event: without room for the answer, it is not received. If a replica becomes invalid, no event is possible any more.
+// modelCalm has each message received as by an event: without room for the answer, it is not received. A replica that becomes invalid receives messages as the others do.
 func modelCalm(w impl.World, rounds int) impl.World {
 	if !modelWorldOk(w) || rounds < 0 || rounds > calmMax {
 		return impl.World{}
@@ -121,9 +121,6 @@ func modelCalm(w impl.World, rounds int) impl.World {
 			for to := range keepers {
 				if next, ok := modelStep(w, hearEvent(at, to)); ok {
 					w = next
-				}
-				if !modelRepOk(w.Reps[to]) {
-					return w
 				}
 			}
 		}
