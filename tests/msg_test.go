@@ -3,6 +3,7 @@ package tests
 import (
 	"math"
 	"slices"
+	"strconv"
 	"testing"
 
 	"loop.example/wapentake/impl"
@@ -87,27 +88,30 @@ func badValues(kind int) map[string][]int {
 	return bad
 }
 
-func TestP10OneNumberWrong(t *testing.T) {
+// wrongNumbers is the good messages with one number that their kind does not allow.
+func wrongNumbers() []namedMsg {
 	fields := map[string]func(m *impl.Msg) *int{
 		"kind": func(m *impl.Msg) *int { return &m.Kind },
 		"from": func(m *impl.Msg) *int { return &m.From },
 		"view": func(m *impl.Msg) *int { return &m.View },
 		"seq":  func(m *impl.Msg) *int { return &m.Seq },
 	}
+	var out []namedMsg
 	for _, g := range goodMsgs() {
 		for name, list := range badValues(g.msg.Kind) {
 			for _, n := range list {
 				m := cloneMsg(g.msg)
 				*fields[name](&m) = n
-				if impl.MsgOk(m) {
-					t.Errorf("valid: %s with %s %d: %v", g.name, name, n, m)
-				}
+				out = append(out, namedMsg{g.name + " with " + name + " " + strconv.Itoa(n), m})
 			}
 		}
 	}
+	return out
 }
 
-func TestP10WrongRequest(t *testing.T) {
+// wrongRequests is the good messages with a request that their kind does not allow.
+func wrongRequests() []namedMsg {
+	var out []namedMsg
 	for _, g := range goodMsgs() {
 		bad := badAsks()
 		if g.msg.Kind <= 2 {
@@ -119,9 +123,24 @@ func TestP10WrongRequest(t *testing.T) {
 		for _, r := range bad {
 			m := cloneMsg(g.msg)
 			m.Req = r
-			if impl.MsgOk(m) {
-				t.Errorf("valid: %s with the request %v", g.name, r)
-			}
+			out = append(out, namedMsg{g.name + " with the request " + strQuote(r), m})
+		}
+	}
+	return out
+}
+
+func TestP10OneNumberWrong(t *testing.T) {
+	for _, x := range wrongNumbers() {
+		if impl.MsgOk(x.msg) {
+			t.Errorf("valid: %s: %v", x.name, x.msg)
+		}
+	}
+}
+
+func TestP10WrongRequest(t *testing.T) {
+	for _, x := range wrongRequests() {
+		if impl.MsgOk(x.msg) {
+			t.Errorf("valid: %s: %v", x.name, x.msg)
 		}
 	}
 }
