@@ -45,7 +45,7 @@ func GameOk(g Game) bool {
 	if len(g.Floor) != Side*Side || len(g.Last) != ClientMax || !entsOk(g.Ents) {
 		return false
 	}
-	return allWithin(g.Floor, GoldAll) && allWithin(g.Last, NumMax) && goldOf(g) == GoldAll
+	return allWithin(g.Floor, GoldAll) && allWithin(g.Last, NumMax) && goldOfEnts(g.Ents)+goldOfFloor(g.Floor) == GoldAll
 }
 
 func entsOk(ents []Ent) bool {
@@ -75,13 +75,18 @@ func onBoard(x int, y int) bool {
 	return within(x, 0, Side-1) && within(y, 0, Side-1)
 }
 
-func goldOf(g Game) int {
+func goldOfEnts(ents []Ent) int {
 	sum := 0
-	for _, n := range g.Floor {
-		sum += n
-	}
-	for _, e := range g.Ents {
+	for _, e := range ents {
 		sum += e.Gold
+	}
+	return sum
+}
+
+func goldOfFloor(floor []int) int {
+	sum := 0
+	for _, n := range floor {
+		sum += n
 	}
 	return sum
 }
